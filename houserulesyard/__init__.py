@@ -1,0 +1,1 @@
+"""A house that keeps its rules, whole. Its one function is answers, in houserulesyard.house."""

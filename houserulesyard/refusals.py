@@ -1,0 +1,13 @@
+"""The numbers by which calls are refused."""
+
+NO_SUCH = -2
+NOTHING_LEFT = -6
+FULL = -12
+TOO_MUCH = -22
+BAD_SIZE = -28
+NO_SUCH_VALUE = -34
+GOES_ON_FOR_EVER = -41
+BREAKS_A_BAN = -42
+NO_HOUSE = -61
+NOT_AN_ENTRY = -71
+BEFORE_LINES = -1000
