@@ -92,27 +92,24 @@ def may_make(running, wanted):
     return tell_verdict(judge(House(running.house.things, wanted.entries), running.state))
 
 
-def unedit(running):
-    """The call unedit."""
-    if len(running.changes) == 0:
+def go_over(running, source, goal):
+    """A change to the last entries of the source: those that were there go to the goal."""
+    if len(source) == 0:
         return [NOTHING_LEFT]
-    behind = running.house.entries
-    refusal = take_entries(running, running.changes[-1])
+    there = running.house.entries
+    refusal = take_entries(running, source[-1])
     if refusal < 0:
         return [refusal]
-    running.changes = running.changes[:-1]
-    running.changes_back = running.changes_back + [behind]
-    return [len(running.changes)]
+    source.pop()
+    goal.append(there)
+    return [len(source)]
+
+
+def unedit(running):
+    """The call unedit."""
+    return go_over(running, running.changes, running.changes_back)
 
 
 def reedit(running):
     """The call reedit."""
-    if len(running.changes_back) == 0:
-        return [NOTHING_LEFT]
-    before = running.house.entries
-    refusal = take_entries(running, running.changes_back[-1])
-    if refusal < 0:
-        return [refusal]
-    running.changes_back = running.changes_back[:-1]
-    running.changes = running.changes + [before]
-    return [len(running.changes_back)]
+    return go_over(running, running.changes_back, running.changes)

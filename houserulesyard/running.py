@@ -1,13 +1,11 @@
 """The house that runs: begun, loaded, and what happens to its things."""
 
-from houserulesyard.judging import Passes, judge, trail, with_value
+from houserulesyard.judging import BROKEN, ENDLESS, Passes, judge, trail, with_value
 from houserulesyard.reading import read_text
 from houserulesyard.refusals import BREAKS_A_BAN, GOES_ON_FOR_EVER, NO_SUCH, NO_SUCH_VALUE
 from houserulesyard.telling import tell_verdict
 
 MOST_EVENTS = 50
-# What refuses a house, by how it's judged: fine, goes on for ever, breaks a ban.
-VERDICT_REFUSALS = (0, GOES_ON_FOR_EVER, BREAKS_A_BAN)
 
 
 class Event:
@@ -46,10 +44,19 @@ def forget_changes(running):
     running.changes_back = []
 
 
+def verdict_refusal(verdict):
+    """The number that refuses a house that's judged so; 0 if it's fine."""
+    if verdict.outcome == ENDLESS:
+        return GOES_ON_FOR_EVER
+    if verdict.outcome == BROKEN:
+        return BREAKS_A_BAN
+    return 0
+
+
 def settle_in(running, house, state):
     """Lets a house run from a state on, where it's fine: 0; else the number that refuses it."""
     verdict = judge(house, state)
-    refusal = VERDICT_REFUSALS[verdict.outcome]
+    refusal = verdict_refusal(verdict)
     if refusal == 0:
         running.house = house
         running.state = verdict.settled

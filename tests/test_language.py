@@ -81,6 +81,7 @@ class Tops(unittest.TestCase):
                 elif isinstance(node, ast.Assign):
                     self.assertEqual(len(node.targets), 1)
                     bound.append(node.targets[0].id)
+                    ast.literal_eval(node.value)
                 else:
                     self.assertTrue(k == 0 and isinstance(node, ast.Expr), (path.name, node.lineno))
             self.assertEqual(len(bound), len(set(bound)), path.name)
