@@ -3,7 +3,7 @@
 from houserulesyard.judging import judge
 from houserulesyard.parts import House
 from houserulesyard.reading import MOST_ENTRIES, entry_of
-from houserulesyard.refusals import FULL, NOT_AN_ENTRY, NOTHING_LEFT, NO_SUCH, TOO_MUCH
+from houserulesyard.refusals import BAD_WORDS, FULL, NO_SUCH, THERE_IS_NONE, TOO_MUCH
 from houserulesyard.running import settle_in
 from houserulesyard.signs import words_of
 from houserulesyard.telling import tell_verdict
@@ -45,7 +45,7 @@ def addition(house, number, line):
         return refused(TOO_MUCH)
     entry = entry_of(words_of(line), house.things)
     if entry is None:
-        return refused(NOT_AN_ENTRY)
+        return refused(BAD_WORDS)
     if len(entries) == MOST_ENTRIES:
         return refused(FULL)
     return Wanted(0, inserted(entries, number, entry), len(entries) + 1)
@@ -95,7 +95,7 @@ def may_make(running, wanted):
 def go_over(running, source, goal):
     """A change to the last entries of the source: those that were there go to the goal."""
     if len(source) == 0:
-        return [NOTHING_LEFT]
+        return [THERE_IS_NONE]
     there = running.house.entries
     refusal = take_entries(running, source[-1])
     if refusal < 0:

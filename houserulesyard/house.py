@@ -1,9 +1,11 @@
 """The calls on a house, one behind another, and what they answer."""
 
+from houserulesyard.asking import all_values, logged, sizes, value_of, why_so
 from houserulesyard.changing import addition, make, may_make, reedit, relocation, removal, unedit
+from houserulesyard.coming import could_come, count_coming, idle_rules
 from houserulesyard.refusals import NO_HOUSE
-from houserulesyard.running import Running, begin, load, look_ahead, mayload, set_thing
-from houserulesyard.telling import tell_house
+from houserulesyard.running import Running, begin, do_again, load, look_ahead, mayload, set_thing, take_back
+from houserulesyard.telling import find_thing, tell_house, tell_line, tell_name
 
 # Each call by its number: its name, how many whole numbers it has, whether a row stands behind them.
 CALLS = (
@@ -21,10 +23,27 @@ CALLS = (
     ("reedit", 0, False),
     ("set", 2, False),
     ("look", 2, False),
+    ("back", 0, False),
+    ("again", 0, False),
+    ("value", 1, False),
+    ("values", 0, False),
+    ("why", 1, False),
+    ("line", 1, False),
+    ("name", 1, False),
+    ("find", 0, True),
+    ("could", 0, True),
+    ("count", 0, False),
+    ("idle", 0, False),
+    ("log", 1, False),
+    ("state", 0, False),
 )
 # The calls that change the entries by what they're handed, and those that ask how such a change is judged.
 MAKING = ("add", "drop", "move")
 ASKING = ("mayadd", "maydrop", "maymove")
+# Of the others that need a house, those that are handed a row, a number, two numbers; the rest are handed nothing.
+WITH_ROW = ("find", "could")
+WITH_NUMBER = ("value", "why", "line", "name", "log")
+WITH_EVENT = ("set", "look")
 
 
 class Call:
@@ -58,21 +77,65 @@ def wanted_change(house, call):
     return relocation(house, call.numbers[0], call.numbers[1])
 
 
+def answer_to_row(running, name, row):
+    """What is answered to a call that is handed a row."""
+    if name == "find":
+        return find_thing(running.house, row)
+    return could_come(running, row)
+
+
+def answer_to_number(running, name, number):
+    """What is answered to a call that is handed a number."""
+    if name == "value":
+        return value_of(running, number)
+    if name == "why":
+        return why_so(running, number)
+    if name == "line":
+        return tell_line(running.house, number)
+    if name == "name":
+        return tell_name(running.house, number)
+    return logged(running, number)
+
+
+def answer_to_event(running, name, thing, value):
+    """What is answered to a call that is handed a thing and a value."""
+    if name == "set":
+        return set_thing(running, thing, value)
+    return look_ahead(running, thing, value)
+
+
+def answer_to_name(running, name):
+    """What is answered to a call that is handed nothing."""
+    if name == "unedit":
+        return unedit(running)
+    if name == "reedit":
+        return reedit(running)
+    if name == "back":
+        return take_back(running)
+    if name == "again":
+        return do_again(running)
+    if name == "values":
+        return all_values(running)
+    if name == "count":
+        return count_coming(running)
+    if name == "idle":
+        return idle_rules(running)
+    return tell_house(running.house)
+
+
 def answer_in_house(running, call):
     """What is answered to a call that needs a house, where there's one."""
     if call.name in MAKING:
         return make(running, wanted_change(running.house, call))
     if call.name in ASKING:
         return may_make(running, wanted_change(running.house, call))
-    if call.name == "unedit":
-        return unedit(running)
-    if call.name == "reedit":
-        return reedit(running)
-    if call.name == "set":
-        return set_thing(running, call.numbers[0], call.numbers[1])
-    if call.name == "look":
-        return look_ahead(running, call.numbers[0], call.numbers[1])
-    return tell_house(running.house)
+    if call.name in WITH_ROW:
+        return answer_to_row(running, call.name, call.row)
+    if call.name in WITH_NUMBER:
+        return answer_to_number(running, call.name, call.numbers[0])
+    if call.name in WITH_EVENT:
+        return answer_to_event(running, call.name, call.numbers[0], call.numbers[1])
+    return answer_to_name(running, call.name)
 
 
 def answer_to(running, call):
@@ -83,6 +146,8 @@ def answer_to(running, call):
         return load(running, call.row)
     if call.name == "mayload":
         return mayload(call.row)
+    if call.name == "state":
+        return sizes(running)
     if running.house is None:
         return [NO_HOUSE]
     return answer_in_house(running, call)

@@ -12,18 +12,25 @@ BROKEN = 2
 
 
 class Passes:
-    """What a pass by some entries makes of each state."""
+    """Which rules decide in each state, by some entries, and what a pass makes of it."""
 
     def __init__(self, entries):
         self.entries = entries
-        self.known = {}
+        # Many ways come by the same states: each is worked out once, and kept.
+        self.deciding = {}
+        self.following = {}
+
+    def rules_in(self, state):
+        """For each thing the number of the rule that decides it in a state; None where none does."""
+        if state not in self.deciding:
+            self.deciding[state] = [deciding_rule(self.entries, thing, state) for thing in range(len(state))]
+        return self.deciding[state]
 
     def after(self, state):
         """The state behind a pass."""
-        # Many ways come by the same states: each is worked out once.
-        if state not in self.known:
-            self.known[state] = after_pass(self.entries, state)
-        return self.known[state]
+        if state not in self.following:
+            self.following[state] = after_pass(self.entries, self.rules_in(state), state)
+        return self.following[state]
 
 
 class Reach:
@@ -55,11 +62,10 @@ def deciding_rule(entries, thing, state):
     return None
 
 
-def after_pass(entries, state):
-    """The state behind a pass over a state."""
+def after_pass(entries, rules, state):
+    """The state behind a pass over a state in which these rules decide its things."""
     values = []
-    for thing, value in enumerate(state):
-        rule = deciding_rule(entries, thing, state)
+    for rule, value in zip(rules, state):
         values.append(value if rule is None else entries[rule].value)
     return tuple(values)
 

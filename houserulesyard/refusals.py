@@ -1,13 +1,14 @@
 """The numbers by which calls are refused."""
 
 NO_SUCH = -2
-NOTHING_LEFT = -6
+THERE_IS_NONE = -6
 FULL = -12
 TOO_MUCH = -22
 BAD_SIZE = -28
+NEVER_COMES = -33
 NO_SUCH_VALUE = -34
 GOES_ON_FOR_EVER = -41
 BREAKS_A_BAN = -42
 NO_HOUSE = -61
-NOT_AN_ENTRY = -71
+BAD_WORDS = -71
 BEFORE_LINES = -1000

@@ -1,8 +1,8 @@
-"""The house that runs: begun, loaded, and what happens to its things."""
+"""The house that runs: begun, loaded, and what happens to its things, is taken back and happens again."""
 
 from houserulesyard.judging import BROKEN, ENDLESS, Passes, judge, trail, with_value
 from houserulesyard.reading import read_text
-from houserulesyard.refusals import BREAKS_A_BAN, GOES_ON_FOR_EVER, NO_SUCH, NO_SUCH_VALUE
+from houserulesyard.refusals import BREAKS_A_BAN, GOES_ON_FOR_EVER, NO_SUCH, NO_SUCH_VALUE, THERE_IS_NONE
 from houserulesyard.telling import tell_verdict
 
 MOST_EVENTS = 50
@@ -112,16 +112,21 @@ def event_trail(running, thing, value):
     return trail(Passes(running.house.entries), with_value(running.state, thing, value))
 
 
+def happen(running, thing, value):
+    """Lets an event happen: by how many passes that changed something it settles."""
+    states = event_trail(running, thing, value)
+    running.events = (running.events + [Event(thing, value, running.state)])[-MOST_EVENTS:]
+    running.state = states[-1]
+    return len(states) - 1
+
+
 def set_thing(running, thing, value):
     """The call set."""
     refusal = event_refusal(running.house.things, thing, value)
     if refusal < 0:
         return [refusal]
-    states = event_trail(running, thing, value)
-    running.events = (running.events + [Event(thing, value, running.state)])[-MOST_EVENTS:]
     running.events_back = []
-    running.state = states[-1]
-    return [len(states) - 1]
+    return [happen(running, thing, value)]
 
 
 def look_ahead(running, thing, value):
@@ -131,3 +136,23 @@ def look_ahead(running, thing, value):
         return [refusal]
     states = event_trail(running, thing, value)
     return [len(states) - 1] + list(states[-1])
+
+
+def take_back(running):
+    """The call back."""
+    if len(running.events) == 0:
+        return [THERE_IS_NONE]
+    event = running.events.pop()
+    running.events_back.append(event)
+    running.state = event.before
+    return [len(running.events)]
+
+
+def do_again(running):
+    """The call again."""
+    if len(running.events_back) == 0:
+        return [THERE_IS_NONE]
+    event = running.events_back.pop()
+    # The entries are the same since it happened first: it settles as it did then.
+    happen(running, event.thing, event.value)
+    return [len(running.events_back)]

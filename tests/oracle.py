@@ -1,7 +1,7 @@
 """A second program, written apart from the package and in another manner, that answers the same calls.
 
 It is slow and free in its means: texts by patterns, conditions by recursion, first shortest ways as the least
-of all ways of a length.
+of all ways of a length, events taken back by going all of them again from the first but the last.
 """
 
 import itertools
@@ -167,9 +167,42 @@ def judge(things, entries, state):
     return (0, start[1])
 
 
+def reachable(things, entries, state):
+    """For each state that can come to be how many events its first shortest way has, and that way."""
+    events = [(k, v) for k, thing in enumerate(things) for v in range(thing[2] + 1)]
+    best = {state: (0, ())}
+    while True:
+        better = dict(best)
+        for (at, (count, way)), event in itertools.product(best.items(), events):
+            to = happened(entries, at, event)[1]
+            better[to] = min(better.get(to, (99, ())), (count + 1, way + (event,)))
+        if better == best:
+            return best
+        best = better
+
+
+def deciders(entries, state):
+    """The rule that decides, for each thing that one does."""
+    found = {}
+    for k, entry in reversed(list(enumerate(entries))):
+        if entry[0] == "rule" and true_in(entry[2], state):
+            found[entry[3]] = k
+    return found
+
+
+def passed_through(entries, state):
+    while one_pass(entries, state) != state:
+        yield state
+        state = one_pass(entries, state)
+    yield state
+
+
+def flat(way):
+    return [number for event in way for number in event]
+
+
 def verdict_told(verdict):
-    flat = [number for event in verdict[-1] for number in event] if verdict[0] else []
-    return [verdict[0]] + list(verdict[1:-1]) + flat
+    return [verdict[0]] + list(verdict[1:-1]) + (flat(verdict[-1]) if verdict[0] else [])
 
 
 class Oracle:
@@ -177,7 +210,7 @@ class Oracle:
         self.house = None
 
     def answer(self, call):
-        if self.house is None and call[0] not in {"begin", "load", "mayload"}:
+        if self.house is None and call[0] not in {"begin", "load", "mayload", "state"}:
             return [-61]
         try:
             return getattr(self, "do_" + call[0])(*call[1:])
@@ -192,8 +225,13 @@ class Oracle:
         things, entries = read_house(text)
         verdict = judge(things, entries, (0,) * len(things))
         self.fine(verdict)
-        self.house, self.state, self.past, self.future = (things, entries), verdict[1], [], []
+        self.house, self.past, self.future = (things, entries), [], []
+        self.start_anew(verdict[1])
         return [len(things)]
+
+    def start_anew(self, state):
+        """In this state, with no events: first is the state before the oldest event that's kept."""
+        self.state, self.first, self.done, self.undone = state, state, [], []
 
     def do_mayload(self, text):
         things, entries = read_house(text)
@@ -215,7 +253,8 @@ class Oracle:
     def take(self, entries):
         verdict = self.judged(entries)
         self.fine(verdict)
-        self.house, self.state = (self.house[0], entries), verdict[1]
+        self.house = (self.house[0], entries)
+        self.start_anew(verdict[1])
 
     def change(self, entries):
         before = self.house[1]
@@ -300,8 +339,95 @@ class Oracle:
 
     def do_set(self, thing, value):
         passes, self.state = self.event(thing, value)
+        self.done.append((thing, value))
+        self.undone = []
+        if len(self.done) > 50:
+            self.first = happened(self.house[1], self.first, self.done.pop(0))[1]
         return [passes]
 
     def do_look(self, thing, value):
         passes, state = self.event(thing, value)
         return [passes] + list(state)
+
+    @staticmethod
+    def none_if_not(many):
+        if not many:
+            raise Refused(-6)
+
+    @staticmethod
+    def there(many, number):
+        if number not in range(len(many)):
+            raise Refused(-2)
+        return many[number]
+
+    def do_back(self):
+        self.none_if_not(self.done)
+        self.undone.append(self.done.pop())
+        self.state = self.first
+        for event in self.done:
+            self.state = happened(self.house[1], self.state, event)[1]
+        return [len(self.done)]
+
+    def do_again(self):
+        self.none_if_not(self.undone)
+        event = self.undone.pop()
+        self.done.append(event)
+        self.state = happened(self.house[1], self.state, event)[1]
+        return [len(self.undone)]
+
+    def do_log(self, k):
+        return list(self.there(self.done[::-1], k))
+
+    def do_value(self, thing):
+        return [self.there(self.state, thing)]
+
+    def do_values(self):
+        return [len(self.state), *self.state]
+
+    def do_why(self, thing):
+        self.there(self.state, thing)
+        found = deciders(self.house[1], self.state)
+        self.none_if_not(thing in found)
+        return [found[thing]]
+
+    def do_line(self, number):
+        text = self.there(self.house[1], number)[1]
+        return [len(text)] + list(text.encode())
+
+    def do_name(self, thing):
+        text = self.there(self.house[0], thing)[1]
+        return [len(text)] + list(text.encode())
+
+    def do_find(self, name):
+        found = {thing[1].encode(): [k, thing[2]] for k, thing in enumerate(self.house[0])}
+        return found.get(bytes(name), [-2])
+
+    def do_could(self, row):
+        text = bytes(row).decode("latin-1")
+        try:
+            need(re.fullmatch("[ -~]{1,100}", text))
+            condition, rest = read_condition([word for word in text.split(" ") if word], self.house[0])
+            need(not rest)
+        except Nothing:
+            raise Refused(-71) from None
+        ways = [way for state, way in reachable(*self.house, self.state).items() if true_in(condition, state)]
+        return [min(ways)[0]] + flat(min(ways)[1]) if ways else [-33]
+
+    def do_count(self):
+        return [len(reachable(*self.house, self.state))]
+
+    def do_idle(self):
+        things, entries = self.house
+        idle = {k for k, entry in enumerate(entries) if entry[0] == "rule"}
+        for state in reachable(things, entries, self.state):
+            idle -= set(deciders(entries, state).values())
+            for k, thing in enumerate(things):
+                for v in range(thing[2] + 1):
+                    for between in passed_through(entries, state[:k] + (v,) + state[k + 1:]):
+                        idle -= set(deciders(entries, between).values())
+        return [len(idle)] + sorted(idle)
+
+    def do_state(self):
+        if self.house is None:
+            return [0] * 7
+        return [1] + [len(many) for many in (*self.house, self.done, self.undone, self.past, self.future)]

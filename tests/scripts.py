@@ -6,6 +6,12 @@ from tests.talk import as_bytes
 LETTERS = "abcdefghijklmnopqrstuvwxyz"
 SIZES = ((1,), (2,), (3,), (1, 1), (1, 2), (3, 1), (1, 1, 1), (2, 1, 1), (3, 3), (1, 1, 1, 1), (3, 3, 3),
          (1, 1, 1, 1, 1, 1))
+EDITS = ("add", "add", "add", "mayadd", "drop", "maydrop", "move", "maymove", "unedit", "unedit", "reedit")
+EVENTS = ("set", "set", "set", "set", "look", "back", "back", "again")
+QUESTIONS = ("tell", "value", "values", "why", "line", "name", "find", "could", "could", "count", "idle", "log", "state")
+BACK_AND_FORTH = ("back", "back", "again", "unedit", "reedit")
+GROUPS = ((EDITS, EVENTS, QUESTIONS), (EDITS, EVENTS, EVENTS, QUESTIONS), (EDITS, EDITS, EVENTS),
+          (EVENTS, EVENTS, EVENTS, QUESTIONS), (EDITS, EVENTS, BACK_AND_FORTH))
 
 
 def condition(chance, tops, depth):
@@ -63,16 +69,24 @@ def numbered(chance, most):
     return chance.randint(0, max(most, 0))
 
 
-def call(chance, kinds, tops, count):
-    """A call on a house with these things and so many entries."""
-    name = chance.choice(("add", "add", "add", "mayadd", "drop", "maydrop", "move", "maymove", "unedit", "reedit",
-                          "set", "set", "set", "look", "tell"))
+def call(chance, groups, kinds, tops, count):
+    """A call out of these groups, on a house with these things and so many entries."""
+    name = chance.choice(chance.choice(groups))
     if name in ("add", "mayadd"):
         line = entry(chance, kinds, tops)
         row = spoiled(chance, line) if chance.random() < 0.1 else as_bytes(line)
         return (name, numbered(chance, count), row)
-    if name in ("drop", "maydrop"):
+    if name in ("drop", "maydrop", "line"):
         return (name, numbered(chance, count - 1))
+    if name in ("value", "why", "name"):
+        return (name, numbered(chance, len(tops) - 1))
+    if name == "log":
+        return (name, numbered(chance, 5))
+    if name == "find":
+        return (name, as_bytes(chance.choice(LETTERS[:len(tops) + 1]) + chance.choice(("", "", "", "", " ", "a"))))
+    if name == "could":
+        row = as_bytes(condition(chance, tops, 3))
+        return (name, spoiled(chance, row) if chance.random() < 0.1 else row)
     if name in ("move", "maymove"):
         return (name, numbered(chance, count - 1), numbered(chance, count - 1))
     if name in ("set", "look"):
@@ -92,6 +106,7 @@ def script(chance, length):
     kinds, tops, text = fine_house(chance)
     calls.append(("load", as_bytes(text)))
     expected = [oracle.answer(made) for made in calls]
+    groups = chance.choice(GROUPS)
     while len(calls) < length:
         if oracle.house is None and chance.random() < 0.5:
             calls.append(("load", as_bytes(text)))
@@ -100,6 +115,6 @@ def script(chance, length):
         elif chance.random() < 0.02:
             calls.append((chance.choice(("mayload", "load")), spoiled(chance, text)))
         else:
-            calls.append(call(chance, kinds, tops, len(oracle.house[1]) if oracle.house else 0))
+            calls.append(call(chance, groups, kinds, tops, len(oracle.house[1]) if oracle.house else 0))
         expected.append(oracle.answer(calls[-1]))
     return calls, expected

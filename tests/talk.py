@@ -4,8 +4,13 @@ from houserulesyard.house import answers
 
 NAMES = (
     "begin", "load", "mayload", "tell", "add", "mayadd", "drop", "maydrop", "move", "maymove",
-    "unedit", "reedit", "set", "look",
+    "unedit", "reedit", "set", "look", "back", "again", "value", "values", "why", "line", "name", "find", "could",
+    "count", "idle", "log", "state",
 )
+MOST_CALLS = 300
+MOST_NUMBERS = 30000
+# Those that answer without a house too.
+WITHOUT_HOUSE = ("begin", "load", "mayload", "state")
 
 
 def as_bytes(text):
@@ -44,7 +49,9 @@ def decoded(numbers):
 
 def ask(*calls):
     """The answers to these calls, on a new object."""
-    given = decoded(answers(encoded(calls)))
+    numbers = encoded(calls)
+    assert len(calls) <= MOST_CALLS and len(numbers) <= MOST_NUMBERS, "more than is ever handed in"
+    given = decoded(answers(numbers))
     assert len(given) == len(calls), (calls, given)
     return given
 
@@ -54,6 +61,16 @@ def ask_last(*calls):
     return ask(*calls)[-1]
 
 
+def loaded(*parts):
+    """A load of a text of these lines."""
+    return ("load", lines(*parts))
+
+
+def counted(text):
+    """So many bytes, then these, as line and name answer them."""
+    return [len(text)] + as_bytes(text)
+
+
 def lines(*parts):
     """A text of these lines."""
     return "".join([part + "\n" for part in parts])
@@ -61,5 +78,4 @@ def lines(*parts):
 
 def told(*parts):
     """What tell answers where the house has these lines."""
-    text = lines(*parts)
-    return [len(text)] + as_bytes(text)
+    return counted(lines(*parts))

@@ -2,31 +2,13 @@
 
 import unittest
 
-from tests.talk import ask, ask_last, lines, told
+from tests.talk import ask, ask_last, loaded, told
 
 MOST = 4294967295
 LAMP = ("in dark 1", "out lamp 1")
 FOLLOW = ("rule dark = 1 -> lamp = 1", "rule dark = 0 -> lamp = 0")
 # a and b hold one another at 1, once one of them is.
 LATCH = ("out a 1", "out b 1", "rule b = 1 -> a = 1", "rule a = 1 -> b = 1")
-
-
-def loaded(*parts):
-    return ("load", lines(*parts))
-
-
-class NoHouse(unittest.TestCase):
-    def test_without_a_house_all_is_refused(self):
-        for call in (("tell",), ("add", 0, "never a = 1"), ("add", MOST, ""), ("mayadd", 0, "x"), ("drop", 0),
-                     ("maydrop", MOST), ("move", 0, 0), ("maymove", 0, MOST), ("unedit",), ("reedit",), ("set", 0, 0),
-                     ("set", MOST, MOST), ("look", 0, 0), ("look", 0, MOST)):
-            with self.subTest(call=call):
-                self.assertEqual(ask_last(call), [-61])
-                self.assertEqual(ask_last(("begin",), call), [-61])
-                self.assertEqual(ask_last(loaded("out a 1"), ("begin",), call), [-61])
-                self.assertEqual(ask_last(("load", "x"), call), [-61])
-                self.assertEqual(ask_last(("mayload", "out a 1"), call), [-61])
-                self.assertNotEqual(ask_last(loaded("out a 1"), call), [-61])
 
 
 class Tell(unittest.TestCase):

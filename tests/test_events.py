@@ -1,10 +1,8 @@
-"""Point 7: set and look; and the events that are kept of the house that runs."""
+"""Point 7: set and look."""
 
 import unittest
 
-from houserulesyard.changing import addition, make, unedit
-from houserulesyard.running import Running, begin, load, look_ahead, set_thing
-from tests.talk import as_bytes, ask, lines, told
+from tests.talk import ask, lines, told
 
 MOST = 4294967295
 LAMP = lines("in dark 2", "out lamp 1", "rule dark > 0 -> lamp = 1", "rule dark = 0 -> lamp = 0")
@@ -69,86 +67,6 @@ class SetAndLook(unittest.TestCase):
         for looked, done, there in zip(given[::3], given[1::3], given[2::3]):
             self.assertEqual(looked[:1], done)
             self.assertEqual(looked[1:], there[1:])
-
-
-class KeptEvents(unittest.TestCase):
-    """No call tells the events yet: the running house is asked itself."""
-
-    def setUp(self):
-        self.running = Running()
-        self.assertEqual(load(self.running, as_bytes(LAMP)), [2])
-
-    def kept(self):
-        return [(event.thing, event.value, event.before) for event in self.running.events]
-
-    def test_each_with_the_state_before_it(self):
-        set_thing(self.running, 0, 2)
-        set_thing(self.running, 1, 0)
-        set_thing(self.running, 0, 0)
-        self.assertEqual(self.kept(), [(0, 2, (0, 0)), (1, 0, (2, 1)), (0, 0, (2, 1))])
-        self.assertEqual(self.running.state, (0, 0))
-
-    def test_an_event_that_changes_nothing_is_kept_too(self):
-        set_thing(self.running, 0, 0)
-        self.assertEqual(self.kept(), [(0, 0, (0, 0))])
-
-    def test_the_51st_event(self):
-        set_thing(self.running, 0, 2)
-        for _ in range(49):
-            set_thing(self.running, 0, 1)
-        self.assertEqual(len(self.kept()), 50)
-        self.assertEqual(self.kept()[0], (0, 2, (0, 0)))
-        set_thing(self.running, 0, 0)
-        self.assertEqual(len(self.kept()), 50)
-        self.assertEqual(self.kept()[0], (0, 1, (2, 1)))
-        self.assertEqual(self.kept()[-1], (0, 0, (1, 1)))
-
-    def test_what_is_refused_or_only_asked_is_not_kept(self):
-        set_thing(self.running, 0, 3)
-        set_thing(self.running, 2, 0)
-        look_ahead(self.running, 0, 1)
-        self.assertEqual(self.kept(), [])
-
-    def test_an_event_forgets_those_taken_back(self):
-        self.running.events_back = ["one"]
-        look_ahead(self.running, 0, 1)
-        set_thing(self.running, 0, 3)
-        self.assertEqual(self.running.events_back, ["one"])
-        set_thing(self.running, 0, 0)
-        self.assertEqual(self.running.events_back, [])
-
-    def add(self, line):
-        return make(self.running, addition(self.running.house, 0, as_bytes(line)))
-
-    def test_a_change_forgets_all_events_and_a_refused_one_none(self):
-        set_thing(self.running, 0, 1)
-        self.running.events_back = ["one"]
-        self.assertEqual(self.add("never dark = 2"), [-42])
-        self.assertEqual((len(self.running.events), self.running.events_back), (1, ["one"]))
-        self.assertEqual(self.add("never dark > 2"), [3])
-        self.assertEqual((self.running.events, self.running.events_back), ([], []))
-        set_thing(self.running, 0, 1)
-        self.running.events_back = ["one"]
-        self.assertEqual(unedit(self.running), [0])
-        self.assertEqual((self.running.events, self.running.events_back), ([], []))
-
-    def test_load_and_begin_forget_all(self):
-        for forget in (lambda: load(self.running, as_bytes(LAMP)), lambda: begin(self.running)):
-            self.setUp()
-            self.add("never dark > 2")
-            set_thing(self.running, 0, 1)
-            self.running.events_back = ["one"]
-            self.running.changes_back = [[]]
-            forget()
-            running = self.running
-            self.assertEqual((running.events, running.events_back, running.changes, running.changes_back),
-                             ([], [], [], []))
-
-    def test_a_refused_load_forgets_nothing(self):
-        set_thing(self.running, 0, 1)
-        self.assertEqual(load(self.running, as_bytes("out a 1\nnever a = 0")), [-42])
-        self.assertEqual(len(self.running.events), 1)
-        self.assertEqual(self.running.state, (1, 1))
 
 
 if __name__ == "__main__":

@@ -2,17 +2,13 @@
 
 import unittest
 
-from tests.talk import ask, ask_last, lines, told
+from tests.talk import ask, ask_last, loaded, told
 
 # a and b fall back to 0 unless both are 1, so that from 0 they never come to be 1.
 FALL = ("rule b = 0 -> a = 0", "rule a = 0 -> b = 0")
 # s is taken back while p is 0, unless u, which follows s, is 1 already; p follows s.
 HOLD = ("rule and u = 0 p = 0 -> s = 0", "rule s = 1 -> u = 1", "rule s = 0 -> u = 0", "rule s = 1 -> p = 1")
 ALWAYS_0 = "rule or p = 0 p = 1 -> p = 0"
-
-
-def loaded(*parts):
-    return ("load", lines(*parts))
 
 
 class Unedit(unittest.TestCase):
